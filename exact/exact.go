@@ -84,6 +84,24 @@ func ofTwo(a, b api.Frac, calculate func(x, y ratio) ratio) (api.Frac, api.Errno
 	return calculate(x, y).text()
 }
 
+// Products returns the sum of products, each of all the numbers of a list. As in Holds, only what comes out of it has a
+// limit of digits: ErrForm if one of the numbers is none, ErrLimit if the sum has too many.
+func Products(lists [][]api.Frac) (api.Frac, api.Errno) {
+	numbers, sum := book{}, integer(small(0))
+	for _, list := range lists {
+		product := integer(small(1))
+		for _, a := range list {
+			x, right := numbers.read(a)
+			if !right {
+				return "", api.ErrForm
+			}
+			product = product.times(x)
+		}
+		sum = sum.plus(product)
+	}
+	return sum.text()
+}
+
 // Neg returns -a (P1.2).
 func Neg(a api.Frac) (api.Frac, api.Errno) {
 	return ofOne(a, ratio.negated)

@@ -288,3 +288,40 @@ func TestDecimal(t *testing.T) {
 		}
 	}
 }
+
+// TestProducts: sums of products, of which P3.5 says how far they may go.
+func TestProducts(t *testing.T) {
+	r := rand.New(rand.NewSource(9))
+	for range 1000 {
+		var lists [][]api.Frac
+		want := new(big.Rat)
+		for range r.Intn(5) {
+			var list []api.Frac
+			product := big.NewRat(1, 1)
+			for range r.Intn(4) {
+				x := randomNumber(r, 20)
+				list = append(list, frac(x))
+				product.Mul(product, x)
+			}
+			lists = append(lists, list)
+			want.Add(want, product)
+		}
+		sum, e := exact.Products(lists)
+		equal(t, "sum", []any{sum, e}, []any{frac(want), api.OK})
+	}
+	sum, e := exact.Products([][]api.Frac{{api.Frac(most), api.Frac(most)}, {"-" + api.Frac(most), api.Frac(most)}, {"1/" + api.Frac(most), "2", api.Frac(most), "5/4"}})
+	equal(t, "only the sum counts", []any{sum, e}, []any{api.Frac("5/2"), api.OK})
+	for _, c := range []struct {
+		list []api.Frac
+		want api.Errno
+	}{
+		{[]api.Frac{api.Frac(most), "2"}, api.ErrLimit},
+		{[]api.Frac{"1/" + api.Frac(most), "1/2"}, api.ErrLimit},
+		{[]api.Frac{api.Frac(most), "2", "x"}, api.ErrForm},
+		{[]api.Frac{"0", ""}, api.ErrForm},
+		{[]api.Frac{"0", api.Frac(most + "0")}, api.ErrForm},
+	} {
+		sum, e := exact.Products([][]api.Frac{{"1"}, c.list})
+		equal(t, "error", []any{sum, e}, []any{api.Frac(""), c.want})
+	}
+}
