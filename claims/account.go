@@ -27,9 +27,9 @@ func claimOf(c api.Contract, l []api.Fact, now int, x api.Clause) api.Claim {
 }
 
 // arises returns the least time up to a moment at which a formula is true; -1 if there is none.
-func arises(m moment, when formula) int {
+func arises(m *moment, when formula) int {
 	for s, facts := range stretches(m) {
-		at := moment{m.c, facts, s.Low}
+		at := &moment{m.c, facts, s.Low}
 		f := when.fixed(at)
 		if _, still := f.(constant); still {
 			s.High = s.Low // it is the same all the time
@@ -45,7 +45,7 @@ func arises(m moment, when formula) int {
 
 // stretches tells the times from 0 up to a moment in spans, in each of which the facts up to its times are the same, with
 // these facts.
-func stretches(m moment) iter.Seq2[api.Span, []api.Fact] {
+func stretches(m *moment) iter.Seq2[api.Span, []api.Fact] {
 	return func(yield func(api.Span, []api.Fact) bool) {
 		for from := 0; from <= m.now; {
 			facts := upTo(m.l, from)
@@ -62,7 +62,7 @@ func stretches(m moment) iter.Seq2[api.Span, []api.Fact] {
 }
 
 // stateOf returns what a claim is that has arisen.
-func stateOf(x api.Clause, m moment, since int) api.ClaimState {
+func stateOf(x api.Clause, m *moment, since int) api.ClaimState {
 	if x.Notice == 0 {
 		return api.ClDue
 	}

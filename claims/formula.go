@@ -14,8 +14,8 @@ type moment struct {
 }
 
 // momentAt returns a time with the facts up to it.
-func momentAt(c api.Contract, l []api.Fact, now int) moment {
-	return moment{c, upTo(l, now), now}
+func momentAt(c api.Contract, l []api.Fact, now int) *moment {
+	return &moment{c, upTo(l, now), now}
 }
 
 // upTo returns the facts of a record up to a time.
@@ -28,7 +28,7 @@ func upTo(l []api.Fact, now int) []api.Fact {
 }
 
 // facts tells the facts of the kind and the item that two words say.
-func (m moment) facts(words []string) iter.Seq[api.Fact] {
+func (m *moment) facts(words []string) iter.Seq[api.Fact] {
 	return func(yield func(api.Fact) bool) {
 		for _, f := range m.l {
 			if f.Kind == words[0] && f.Item == words[1] && !yield(f) {
@@ -40,9 +40,9 @@ func (m moment) facts(words []string) iter.Seq[api.Fact] {
 
 // formula is a formula that Print accepts. The value of a truth is 1 or 0.
 type formula interface {
-	value(m moment) int64
+	value(m *moment) int64
 	// fixed returns a formula with the same values, as long as the facts stay the same
-	fixed(m moment) formula
+	fixed(m *moment) formula
 }
 
 // formula returns a formula that Print accepts.
@@ -63,8 +63,8 @@ func (t table) formula(x api.Expr) formula {
 // constant is a number.
 type constant int64
 
-func (c constant) value(moment) int64   { return int64(c) }
-func (c constant) fixed(moment) formula { return c }
+func (c constant) value(*moment) int64   { return int64(c) }
+func (c constant) fixed(*moment) formula { return c }
 
 // called is a call with its arguments.
 type called struct {
@@ -72,9 +72,9 @@ type called struct {
 	args []formula
 }
 
-func (c called) value(m moment) int64 { return c.call.reckon(m, c.args) }
+func (c called) value(m *moment) int64 { return c.call.reckon(m, c.args) }
 
-func (c called) fixed(m moment) formula {
+func (c called) fixed(m *moment) formula {
 	out := called{call: c.call}
 	moves := false
 	for _, arg := range c.args {
@@ -95,9 +95,9 @@ type asked struct {
 	words    []string
 }
 
-func (a asked) value(m moment) int64 { return a.question.answer(m, a.words) }
+func (a asked) value(m *moment) int64 { return a.question.answer(m, a.words) }
 
-func (a asked) fixed(m moment) formula {
+func (a asked) fixed(m *moment) formula {
 	if a.question.moves {
 		return a
 	}

@@ -16,7 +16,7 @@ type call struct {
 	least, most int // arguments
 	first, rest valueType
 	gives       valueType
-	reckon      func(m moment, args []formula) int64
+	reckon      func(m *moment, args []formula) int64
 }
 
 // takes returns the type that an argument must have.
@@ -31,7 +31,7 @@ func (c call) takes(arg int) valueType {
 type question struct {
 	words  int
 	moves  bool // whether the answer changes while the facts stay the same
-	answer func(m moment, words []string) int64
+	answer func(m *moment, words []string) int64
 }
 
 // table is the table of formulas.
@@ -60,7 +60,7 @@ func calls() map[string]call {
 		"=":   {2, 2, numeric, numeric, logical, stepwise(func(a, b int64) int64 { return asNumber(a == b) })},
 		"and": {2, many, logical, logical, logical, stepwise(func(a, b int64) int64 { return a & b })},
 		"or":  {2, many, logical, logical, logical, stepwise(func(a, b int64) int64 { return a | b })},
-		"not": {1, 1, logical, logical, logical, func(m moment, args []formula) int64 { return 1 - args[0].value(m) }},
+		"not": {1, 1, logical, logical, logical, func(m *moment, args []formula) int64 { return 1 - args[0].value(m) }},
 		"if":  {3, 3, logical, numeric, numeric, choose},
 	}
 }
@@ -71,11 +71,11 @@ func questions() map[string]question {
 		"sum":    {2, false, sum},
 		"count":  {2, false, count},
 		"first":  {2, false, first},
-		"last":   {2, false, func(m moment, words []string) int64 { return int64(m.last(words, api.Fact{Time: -1}).Time) }},
-		"latest": {2, false, func(m moment, words []string) int64 { return m.last(words, api.Fact{}).Number }},
-		"base":   {1, false, func(m moment, words []string) int64 { return named(m.c.Bases, words[0]) }},
-		"price":  {1, false, func(m moment, words []string) int64 { return named(m.c.Prices, words[0]) }},
-		"now":    {0, true, func(m moment, _ []string) int64 { return int64(m.now) }},
+		"last":   {2, false, func(m *moment, words []string) int64 { return int64(m.last(words, api.Fact{Time: -1}).Time) }},
+		"latest": {2, false, func(m *moment, words []string) int64 { return m.last(words, api.Fact{}).Number }},
+		"base":   {1, false, func(m *moment, words []string) int64 { return named(m.c.Bases, words[0]) }},
+		"price":  {1, false, func(m *moment, words []string) int64 { return named(m.c.Prices, words[0]) }},
+		"now":    {0, true, func(m *moment, _ []string) int64 { return int64(m.now) }},
 	}
 }
 
@@ -88,8 +88,8 @@ func (t table) typeOf(x api.Expr) valueType {
 }
 
 // stepwise returns what reckons with arguments from the left, two by two.
-func stepwise(step func(a, b int64) int64) func(m moment, args []formula) int64 {
-	return func(m moment, args []formula) int64 {
+func stepwise(step func(a, b int64) int64) func(m *moment, args []formula) int64 {
+	return func(m *moment, args []formula) int64 {
 		out := args[0].value(m)
 		for _, arg := range args[1:] {
 			out = step(out, arg.value(m))
@@ -99,7 +99,7 @@ func stepwise(step func(a, b int64) int64) func(m moment, args []formula) int64 
 }
 
 // choose returns the value of the second argument if the first one is true, otherwise that of the third one.
-func choose(m moment, args []formula) int64 {
+func choose(m *moment, args []formula) int64 {
 	if args[0].value(m) != 0 {
 		return args[1].value(m)
 	}
@@ -148,7 +148,7 @@ func asNumber(is bool) int64 {
 }
 
 // last returns the last fact of the kind and the item that two words say, or what stands for none.
-func (m moment) last(words []string, none api.Fact) api.Fact {
+func (m *moment) last(words []string, none api.Fact) api.Fact {
 	found := none
 	for f := range m.facts(words) {
 		found = f
@@ -156,7 +156,7 @@ func (m moment) last(words []string, none api.Fact) api.Fact {
 	return found
 }
 
-func sum(m moment, words []string) int64 {
+func sum(m *moment, words []string) int64 {
 	total := int64(0)
 	for f := range m.facts(words) {
 		total = held(total + f.Number)
@@ -164,7 +164,7 @@ func sum(m moment, words []string) int64 {
 	return total
 }
 
-func count(m moment, words []string) int64 {
+func count(m *moment, words []string) int64 {
 	many := int64(0)
 	for range m.facts(words) {
 		many++
@@ -172,7 +172,7 @@ func count(m moment, words []string) int64 {
 	return many
 }
 
-func first(m moment, words []string) int64 {
+func first(m *moment, words []string) int64 {
 	for f := range m.facts(words) {
 		return int64(f.Time)
 	}
